@@ -1,0 +1,1 @@
+"""Items of different kinds that leave in pairs."""
