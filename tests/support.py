@@ -6,6 +6,7 @@ import unittest
 
 LARGEST = 10 ** 30
 S = [('a', 3), ('b', 1), ('c', 4), ('a', 1)]
+LONGEST = [('a', LARGEST), ('b', LARGEST)] * 200
 
 # No kind, whatever is asked.
 WRONG_KINDS = [
@@ -38,6 +39,20 @@ WRONG_SEQUENCES = [
 WRONG_SEQUENCES = WRONG_SEQUENCES + [[run] for run in WRONG_RUNS]
 WRONG_SEQUENCES = WRONG_SEQUENCES + [[('b', 2), run, ('b', 2)] for run in WRONG_RUNS]
 
+# Sequences, but of more than 400 items.
+LONG_SEQUENCES = [
+    [('a', 401)], [('a', 400), ('b', 1)], [('a', 1), ('b', 400)], [('a', 1), ('b', 1)] * 199 + [('a', 2), ('b', 1)],
+    [('a', LARGEST)], LONGEST,
+]
+
+# No list of kinds to choose from.
+WRONG_KIND_LISTS = [
+    None, True, False, 0, 1, '', 'a', 'abc', b'abc', [], (), {}, {'a': 1}, {'a'}, iter(['a']), range(0), object(), list,
+    ['b', 'a'], ('b', 'a'), ['a', 'a'], ['a', 'b', 'b'], ['a', 'c', 'b'], ['a', 'b', 'ab'], ['aa', 'a'], [['a']],
+    list('abcdefghijklm'), tuple('abcdefghijklm'), ['a'] * 13,
+]
+WRONG_KIND_LISTS = WRONG_KIND_LISTS + [[kind] for kind in WRONG_KINDS] + [['a', kind] for kind in WRONG_KINDS]
+
 
 class ExactCase(unittest.TestCase):
     """Comparisons that tell a list from a tuple and True from 1."""
@@ -60,6 +75,16 @@ class ExactCase(unittest.TestCase):
         self.same(arguments, before)
         return result
 
+    def gives_new_lists(self, *calls):
+        """Check that what is done to a returned list has no effect on later results."""
+        for call in calls:
+            result = call()
+            wanted = repr(result)
+            self.assertIs(type(result), list)
+            result.append('more')
+            result[0] = 'other'
+            self.assertEqual(repr(call()), wanted)
+
 
 def all_items(kinds, longest):
     """All lists of at most so many of the kinds."""
@@ -71,21 +96,55 @@ def grouped(items):
     return [(kind, len(list(group))) for kind, group in itertools.groupby(items)]
 
 
-def queues(items, state=None):
-    """The waiting items (kind, position) at all moments, by the rule [5] and nothing else.
+def mixed_items(kinds, length, step):
+    """A list of so many of the kinds, another one for each step, without much of a pattern."""
+    return [kinds[(at * at * step + at // 3 + step) % 101 % len(kinds)] for at in range(length)]
 
-    The items that wait at the beginning have no positions. No use is made of what [7] says.
+
+def arrive(queue, kind, position):
+    """Let one item arrive, by the rule [5] and nothing else. Returns the item with which it leaves, or None.
+
+    The queue holds the waiting items (kind, position). No use is made of what [7] says.
     """
-    queue = [] if state is None else [(state[0], None)] * state[1]
+    others = [at for at, waiting in enumerate(queue) if waiting[0] != kind]
+    if others:
+        return queue.pop(others[0])
+    queue.append((kind, position))
+    return None
+
+
+def queue_of(state):
+    """The waiting items of a state, which have no positions."""
+    return [] if state is None else [(state[0], None)] * state[1]
+
+
+def queues(items, state=None):
+    """The waiting items (kind, position) at all moments."""
+    queue = queue_of(state)
     moments = [list(queue)]
     for position, kind in enumerate(items):
-        others = [at for at, waiting in enumerate(queue) if waiting[0] != kind]
-        if others:
-            del queue[others[0]]
-        else:
-            queue.append((kind, position))
+        arrive(queue, kind, position)
         moments.append(list(queue))
     return moments
+
+
+def leaving_pairs(items):
+    """The pairs of positions in the order in which they leave."""
+    queue = []
+    pairs = []
+    for position, kind in enumerate(items):
+        partner = arrive(queue, kind, position)
+        if partner is not None:
+            pairs.append((partner[1], position))
+    return pairs
+
+
+def effect(items, state):
+    """The state after the arrival of some items."""
+    queue = queue_of(state)
+    for kind in items:
+        arrive(queue, kind, None)
+    return state_of(queue)
 
 
 def state_of(queue):
@@ -94,6 +153,26 @@ def state_of(queue):
     if len(kinds) > 1:
         raise AssertionError('items of different kinds wait')
     return (kinds[0], len(queue)) if kinds else None
+
+
+def waiting_items(kind, number):
+    """The state of so many waiting items of a kind."""
+    return (kind, number) if number else None
+
+
+def number_of(state):
+    """The number of waiting items of a state."""
+    return 0 if state is None else state[1]
+
+
+def times(state, factor):
+    """The state with so many times as many waiting items."""
+    return None if state is None else (state[0], state[1] * factor)
+
+
+def multiplied(runs, factor):
+    """The runs with all counts multiplied."""
+    return [(kind, count * factor) for kind, count in runs]
 
 
 def ranges_of(positions):

@@ -3,6 +3,7 @@
 import ast
 import builtins
 import importlib
+import inspect
 import pathlib
 import re
 import unittest
@@ -10,9 +11,22 @@ import unittest
 FOLDER = pathlib.Path(__file__).resolve().parent.parent / 'unlikepairs'
 
 INTERFACE = {
-    'sequences': ['is_kind', 'is_sequence', 'is_state', 'total_length', 'counts_of', 'kind_at', 'part_of', 'joined',
-                  'runs_of', 'items_of'],
-    'waiting': ['state_after', 'state_at', 'waiting_at', 'empty_moments', 'most_waiting'],
+    'sequences': [
+        'is_kind(value)', 'is_sequence(value)', 'is_state(value)', 'total_length(sequence)', 'counts_of(sequence)',
+        'kind_at(sequence, position)', 'part_of(sequence, start, length)', 'joined(first, second)', 'runs_of(items)',
+        'items_of(sequence)'],
+    'waiting': [
+        'state_after(sequence, state=None)', 'state_at(sequence, moment, state=None)', 'waiting_at(sequence, moment)',
+        'empty_moments(sequence, state=None)', 'most_waiting(sequence, state=None)'],
+    'partners': [
+        'partner_of(sequence, position)', 'pair_count(sequence, moment=None)', 'pairs_of(sequence)',
+        'nth_pair(sequence, index)', 'longest_wait(sequence)', 'is_pairing(sequence, value)'],
+    'effects': [
+        'effect_of(sequence, kind)', 'effect_on(effects, kind, state)', 'have_same_effect(first, second)',
+        'state_that_differs(first, second)', 'states_before(sequence, state, kinds)'],
+    'rounds': [
+        'after_rounds(sequence, rounds, state=None)', 'growth_of(sequence)', 'return_of(sequence, state=None)',
+        'growing_from(sequence, state=None)'],
 }
 
 BUILTINS = set((
@@ -94,12 +108,14 @@ class Source(unittest.TestCase):
 
 
 class Interface(unittest.TestCase):
-    def test_each_function_is_defined_in_its_file(self):
-        for module, names in INTERFACE.items():
-            for name in names:
+    def test_each_function_is_defined_in_its_file_with_its_arguments(self):
+        for module, calls in INTERFACE.items():
+            for call in calls:
+                name = call.partition('(')[0]
                 function = getattr(importlib.import_module('unlikepairs.' + module), name)
                 self.assertEqual(function.__module__, 'unlikepairs.' + module, name)
                 self.assertEqual(function.__name__, name)
+                self.assertEqual(name + str(inspect.signature(function)), call)
 
 
 if __name__ == '__main__':

@@ -3,12 +3,11 @@
 import unittest
 
 from tests.support import (
-    LARGEST, S, WRONG_KINDS, WRONG_NUMBERS, WRONG_SEQUENCES, WRONG_STATES, ExactCase, all_items, grouped, shapes)
+    LARGEST, LONGEST, S, WRONG_KINDS, WRONG_NUMBERS, WRONG_SEQUENCES, WRONG_STATES, ExactCase, all_items, grouped,
+    shapes)
 from unlikepairs.errors import InvalidItems, InvalidNumber, InvalidPosition, InvalidSequence, TooLong
 from unlikepairs.sequences import (
     counts_of, is_kind, is_sequence, is_state, items_of, joined, kind_at, part_of, runs_of, total_length)
-
-LONGEST = [('a', LARGEST), ('b', LARGEST)] * 200
 
 
 class Kinds(ExactCase):

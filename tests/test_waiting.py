@@ -3,27 +3,18 @@
 import unittest
 
 from tests.support import (
-    LARGEST, S, WRONG_NUMBERS, WRONG_SEQUENCES, WRONG_STATES, ExactCase, all_items, grouped, queues, ranges_of,
-    shapes, state_of)
+    LARGEST, LONGEST, S, WRONG_NUMBERS, WRONG_SEQUENCES, WRONG_STATES, ExactCase, all_items, grouped, multiplied,
+    number_of, queues, ranges_of, shapes, state_of, times)
 from unlikepairs.errors import InvalidPosition, InvalidSequence, InvalidState
 from unlikepairs.waiting import empty_moments, most_waiting, state_after, state_at, waiting_at
 
-LONGEST = [('a', LARGEST), ('b', LARGEST)] * 200
 STATES = [None] + [(kind, count) for kind in 'abd' for count in [1, 2, 3, 5]]
-
-
-def number_of(state):
-    return 0 if state is None else state[1]
 
 
 def distance(one, other):
     if one is not None and other is not None and one[0] == other[0]:
         return abs(one[1] - other[1])
     return number_of(one) + number_of(other)
-
-
-def times(state, factor):
-    return None if state is None else (state[0], state[1] * factor)
 
 
 class Examples(ExactCase):
@@ -168,7 +159,7 @@ class LargeNumbers(ExactCase):
         for factor in [2, 10 ** 29]:
             for items in all_items('abc', 5):
                 runs = grouped(items)
-                large = [(kind, count * factor) for kind, count in runs]
+                large = multiplied(runs, factor)
                 for state in [None, ('a', 2), ('d', 3)]:
                     start = times(state, factor)
                     most, moment = most_waiting(runs, state)
@@ -260,14 +251,9 @@ class KindsOfValues(ExactCase):
             self.same(most_waiting(empty, ['c', 2]), (2, 0))
 
     def test_returned_lists_are_new(self):
-        calls = [lambda: waiting_at(S, 8), lambda: waiting_at(S, 0), lambda: empty_moments(S),
-                 lambda: empty_moments([]), lambda: empty_moments(S, ('c', 2))]
-        for call in calls:
-            result = call()
-            wanted = repr(result)
-            result.append('more')
-            result[0] = 'other'
-            self.assertEqual(repr(call()), wanted)
+        self.gives_new_lists(
+            lambda: waiting_at(S, 8), lambda: waiting_at(S, 0), lambda: empty_moments(S),
+            lambda: empty_moments([]), lambda: empty_moments(S, ('c', 2)))
 
     def test_values_that_are_changed_are_judged_anew(self):
         runs = [['a', 3], ['b', 1]]

@@ -1,10 +1,12 @@
 """Kinds, states, and sequences of arrivals that are given as runs of equal kinds."""
 
-from unlikepairs.errors import InvalidItems, InvalidNumber, InvalidPosition, InvalidSequence, InvalidState, TooLong
+from unlikepairs.errors import (
+    InvalidItems, InvalidKind, InvalidKinds, InvalidNumber, InvalidPosition, InvalidSequence, InvalidState, TooLong)
 
 MAX_LETTERS = 8
 MAX_RUNS = 400
 MAX_ITEMS = 400
+MAX_KINDS = 12
 MAX_COUNT = 10 ** 30
 
 
@@ -35,6 +37,13 @@ def is_kind(value):
     return all(["a" <= letter <= "z" for letter in value])
 
 
+def is_kinds(value):
+    """Return whether any value is a list of 1 to 12 kinds in ascending order without duplicates."""
+    if not is_listed(value, MAX_KINDS) or len(value) == 0 or not all([is_kind(kind) for kind in value]):
+        return False
+    return all([kind < following for kind, following in zip(value, value[1:])])
+
+
 def is_run(value):
     """Return whether any value is a run."""
     return is_couple(value) and is_kind(value[0]) and is_within(value[1], 1, MAX_COUNT)
@@ -59,6 +68,32 @@ def checked_runs(sequence):
     if not is_sequence(sequence):
         raise InvalidSequence("not a sequence")
     return [(kind, count) for kind, count in sequence]
+
+
+def checked_short_runs(sequence):
+    """Return the runs of a sequence of at most 400 items."""
+    runs = checked_runs(sequence)
+    if length_of(runs) > MAX_ITEMS:
+        raise TooLong("the sequence has more than 400 items")
+    return runs
+
+
+def check_kind(kind):
+    """Raise an error unless a value is a kind."""
+    if not is_kind(kind):
+        raise InvalidKind("not a kind")
+
+
+def check_kinds(kinds):
+    """Raise an error unless a value is a list of kinds that may be chosen from."""
+    if not is_kinds(kinds):
+        raise InvalidKinds("not a list of 1 to 12 kinds in ascending order")
+
+
+def check_position(runs, position):
+    """Raise an error unless a value is the position of an item of some runs."""
+    if not is_within(position, 0, length_of(runs) - 1):
+        raise InvalidPosition("not the position of an item")
 
 
 def checked_state(state):
@@ -111,8 +146,7 @@ def counts_of(sequence):
 def kind_at(sequence, position):
     """Return the kind of the item at a position."""
     runs = checked_runs(sequence)
-    if not is_within(position, 0, length_of(runs) - 1):
-        raise InvalidPosition("not the position of an item")
+    check_position(runs, position)
     return cut(runs, position, 1)[0][0]
 
 
@@ -149,10 +183,7 @@ def runs_of(items):
 
 def items_of(sequence):
     """Return the list of the kinds of all items."""
-    runs = checked_runs(sequence)
-    if length_of(runs) > MAX_ITEMS:
-        raise TooLong("the sequence has more than 400 items")
     items = []
-    for kind, count in runs:
+    for kind, count in checked_short_runs(sequence):
         items.extend([kind] * count)
     return items

@@ -9,6 +9,11 @@ def waiting_number(state):
     return 0 if state is None else state[1]
 
 
+def state_with(kind, number):
+    """Return the state of so many waiting items of a kind, 0 included."""
+    return None if number == 0 else (kind, number)
+
+
 def leaving_number(state, kind, count):
     """Return how many of so many arriving items of a kind leave with an item of the state."""
     if state is None or state[0] == kind:
@@ -23,7 +28,7 @@ def state_after_run(state, kind, count):
     left_over = waiting_number(state) - count
     if left_over > 0:
         return (state[0], left_over)
-    return None if left_over == 0 else (kind, -left_over)
+    return state_with(kind, -left_over)
 
 
 def state_after_runs(runs, state):
@@ -50,6 +55,15 @@ def without_first(ranges, number):
     return kept
 
 
+def ranges_after_run(ranges, start, count, leaving):
+    """Return the waiting positions after a run that begins at start and whose first leaving items leave at once."""
+    kept = without_first(ranges, leaving)
+    if leaving < count:
+        # Never next to the range before it: an item of another kind arrived between two runs of one kind.
+        kept.append((start + leaving, start + count - 1))
+    return kept
+
+
 def state_after(sequence, state=None):
     """Return the state after all arrivals."""
     runs = checked_runs(sequence)
@@ -71,11 +85,7 @@ def waiting_at(sequence, moment):
     start = 0
     ranges = []
     for kind, count in cut(runs, 0, moment):
-        leaving = leaving_number(state, kind, count)
-        ranges = without_first(ranges, leaving)
-        if leaving < count:
-            # Never next to the range before it: an item of another kind arrived between two runs of one kind.
-            ranges.append((start + leaving, start + count - 1))
+        ranges = ranges_after_run(ranges, start, count, leaving_number(state, kind, count))
         state = state_after_run(state, kind, count)
         start += count
     return ranges
