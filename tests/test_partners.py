@@ -182,9 +182,9 @@ class Pairings(ExactCase):
 
     def test_other_values(self):
         others = [None, True, False, 0, 1, '', '01', b'01', {}, {0: 1}, {(0, 1)}, object(), list, range(2),
-                  iter([(0, 1)]), (0, 1), [0, 1], [[(0, 1)]], [(1, 0)], [(0, 1), (0, 1)], [(0, 1), None], [None, (0, 1)], [None],
-                  [()], [(0,)], [(0, 1, 1)], [{0, 1}], [{0: 0, 1: 1}], [range(2)], ['01'], [b'01'], [(0, 0)], [(1, 1)],
-                  [(0, 2)], [(-1, 1)], [(0, LARGEST)]]
+                  iter([(0, 1)]), (0, 1), [0, 1], [[(0, 1)]], [(1, 0)], [(0, 1), (0, 1)], [(0, 1), None],
+                  [None, (0, 1)], [None], [()], [(0,)], [(0, 1, 1)], [{0, 1}], [{0: 0, 1: 1}], [range(2)], ['01'],
+                  [b'01'], [(0, 0)], [(1, 1)], [(0, 2)], [(-1, 1)], [(0, LARGEST)]]
         others = others + [[(0, value)] for value in WRONG_NUMBERS] + [[(value, 1)] for value in WRONG_NUMBERS]
         for value in others:
             self.same(is_pairing([('a', 1), ('b', 1)], value), False)
