@@ -1,6 +1,7 @@
 """What several test files need: exact comparison, and items that are kept one by one."""
 
 import copy
+import functools
 import itertools
 import unittest
 
@@ -53,6 +54,17 @@ WRONG_KIND_LISTS = [
 ]
 WRONG_KIND_LISTS = WRONG_KIND_LISTS + [[kind] for kind in WRONG_KINDS] + [['a', kind] for kind in WRONG_KINDS]
 
+# No counts of kinds.
+WRONG_COUNT_LISTS = [
+    None, True, False, 0, 1, '', 'a', 'a*3', b'', {}, {'a': 1}, set(), object(), list, iter([]), range(0),
+    ('a', 1), ['a', 1], {'a': 1}.items(), [[('a', 1)]], [('a', 3), ('a', 1)], [('b', 1), ('a', 1)],
+    (('b', 1), ('a', 1)), [('a', 1), ('c', 1), ('b', 1)], [('aa', 1), ('a', 1)], [('a', 1), ('b', 1), ('b', 1)],
+    [(kind, 1) for kind in 'abcdefghijklm'], tuple([(kind, 1) for kind in 'abcdefghijklm']),
+]
+WRONG_COUNT_LISTS = WRONG_COUNT_LISTS + [[run] for run in WRONG_RUNS]
+WRONG_COUNT_LISTS = WRONG_COUNT_LISTS + [[('a', 2), run] for run in WRONG_RUNS]
+WRONG_COUNT_LISTS = WRONG_COUNT_LISTS + [[run, ('z', 2)] for run in WRONG_RUNS]
+
 
 class ExactCase(unittest.TestCase):
     """Comparisons that tell a list from a tuple and True from 1."""
@@ -61,12 +73,13 @@ class ExactCase(unittest.TestCase):
         self.assertEqual(repr(got), repr(wanted))
 
     def refuses(self, error, function, *arguments):
-        """Check that a call raises exactly this error and modifies no argument."""
+        """Check that a call raises exactly this error and modifies no argument. Returns the error."""
         before = repr(arguments)
         with self.assertRaises(ValueError) as caught:
             function(*arguments)
         self.assertIs(type(caught.exception), error, (function, arguments))
         self.assertEqual(repr(arguments), before)
+        return caught.exception
 
     def unchanged(self, function, *arguments):
         """Return the result of a call that must not modify its arguments."""
@@ -195,3 +208,33 @@ def shapes(runs):
         tuple([list(run) for run in runs]),
         [list(run) if at % 2 else tuple(run) for at, run in enumerate(runs)],
     ]
+
+
+def all_counts(kinds, most):
+    """All counts of at most so many items of each of the kinds."""
+    return [tuple([(kind, count) for kind, count in zip(kinds, numbers) if count])
+            for numbers in itertools.product(range(most + 1), repeat=len(kinds))]
+
+
+def all_orders(counts):
+    """All orders of some counts, in ascending order."""
+    if not counts:
+        return [[]]
+    orders = []
+    for kind, count in counts:
+        left = [(each, number - (each == kind)) for each, number in counts]
+        orders.extend([[kind] + rest for rest in all_orders([entry for entry in left if entry[1]])])
+    return orders
+
+
+@functools.lru_cache(maxsize=None)
+def orders_by_state(counts):
+    """All orders of some counts, given as a tuple, by the states to which they lead, each list in ascending order."""
+    orders = {}
+    for items in all_orders(counts):
+        orders.setdefault(effect(items, None), []).append(items)
+    return orders
+
+
+# Every number of items from 0 to 9, with one to four kinds.
+SMALL_COUNTS = sorted(set(all_counts('abc', 3) + all_counts('abcd', 2) + all_counts('ab', 4) + all_counts('a', 6)))

@@ -27,6 +27,15 @@ INTERFACE = {
     'rounds': [
         'after_rounds(sequence, rounds, state=None)', 'growth_of(sequence)', 'return_of(sequence, state=None)',
         'growing_from(sequence, state=None)'],
+    'meetings': [
+        'distance_of(one, other)', 'meeting_moment(sequence, one, other)', 'meeting_length(kinds, one, other)',
+        'shortest_meeting(kinds, one, other)'],
+    'remains': [
+        'can_remain(counts, state)', 'reason_against(counts, state)', 'shows_against(counts, state, value)',
+        'sequence_for(counts, state)', 'remaining_range(counts, kind)', 'remaining_count(counts)'],
+    'orders': [
+        'order_count(counts)', 'orders_leading_to(counts, state)', 'nth_order(counts, state, index)',
+        'order_index(counts, items)', 'likeliest_state(counts)'],
 }
 
 BUILTINS = set((

@@ -9,6 +9,11 @@ def waiting_number(state):
     return 0 if state is None else state[1]
 
 
+def kind_of(state):
+    """Return the kind of the waiting items of a state, or None if nobody waits."""
+    return None if state is None else state[0]
+
+
 def state_with(kind, number):
     """Return the state of so many waiting items of a kind, 0 included."""
     return None if number == 0 else (kind, number)
