@@ -65,6 +65,30 @@ WRONG_COUNT_LISTS = WRONG_COUNT_LISTS + [[run] for run in WRONG_RUNS]
 WRONG_COUNT_LISTS = WRONG_COUNT_LISTS + [[('a', 2), run] for run in WRONG_RUNS]
 WRONG_COUNT_LISTS = WRONG_COUNT_LISTS + [[run, ('z', 2)] for run in WRONG_RUNS]
 
+# No entry of a record.
+WRONG_ENTRIES = [
+    None, True, 0, 1, '', 'a', 'a+', 'waits', b'a+', [], (), {}, {'a': 'waits'}, {'a', 'waits'}, object(), tuple,
+    ('a',), ('waits',), ('a', 'waits', 'waits'), ('waits', 'a'), ('waits', None), ('a', ''), ('a', 'wait'),
+    ('a', 'Waits'), ('a', 'leaves '), ('a', ' waits'), ('a', 'waits\n'), ('a', '+'), ('a', '-'), ('a', None),
+    ('a', True), ('a', 1), ('a', b'waits'), ('a', ['waits']), ('a', ('waits',)), ('a', 'w'), ('a', 'waitsleaves'),
+    (('a', 'waits'),), [('a', 'waits')], (('a',), 'waits'), ('?', 'waits'), {0: 'a', 1: 'waits'}, range(2),
+]
+WRONG_ENTRIES = WRONG_ENTRIES + [(kind, 'waits') for kind in WRONG_KINDS if kind is not None]
+
+# No record.
+WRONG_RECORDS = [
+    None, True, False, 0, 1, '', 'a', 'a+', b'', {}, {'a': 'waits'}, set(), object(), list, iter([]), range(0),
+    ('a', 'waits'), ['a', 'waits'], (None, 'waits'), [[('a', 'waits')]], {'a': 'waits'}.items(),
+    [(None, 'waits')] * 401, [('a', 'waits'), ('b', 'leaves')] * 200 + [(None, 'waits')], ((None, 'waits'),) * 401,
+]
+WRONG_RECORDS = WRONG_RECORDS + [[entry] for entry in WRONG_ENTRIES]
+WRONG_RECORDS = WRONG_RECORDS + [[(None, 'waits'), entry, (None, 'waits')] for entry in WRONG_ENTRIES]
+
+# No strings.
+WRONG_STRINGS = [
+    None, True, False, 0, 1, 10 ** 39, b'', b'a', b'undo', [], ['a'], ('a',), (), {}, {'a': 1}, {'a'}, object(), str, S,
+]
+
 
 class ExactCase(unittest.TestCase):
     """Comparisons that tell a list from a tuple and True from 1."""
@@ -238,3 +262,72 @@ def orders_by_state(counts):
 
 # Every number of items from 0 to 9, with one to four kinds.
 SMALL_COUNTS = sorted(set(all_counts('abc', 3) + all_counts('abcd', 2) + all_counts('ab', 4) + all_counts('a', 6)))
+
+
+class OneByOneStation:
+    """A station that keeps its items one by one, and undoes by beginning again."""
+
+    def __init__(self, operations=()):
+        self.queue = []
+        self.partners = []
+        self.pairs = 0
+        self.given_up = 0
+        self.operations = []
+        for operation in operations:
+            self.do(operation)
+
+    def do(self, operation):
+        name, value, count = operation
+        result = self.arrive(value, count) if name == 'arrive' else self.give_up(value, count)
+        self.operations.append(operation)
+        return result
+
+    def arrive(self, kind, count):
+        before = self.pairs
+        for each in range(count):
+            position = len(self.partners)
+            partner = arrive(self.queue, kind, position)
+            self.partners.append(None if partner is None else partner[1])
+            if partner is not None:
+                self.partners[partner[1]] = position
+                self.pairs += 1
+        return self.pairs - before
+
+    def give_up(self, index, count):
+        positions = [position for kind, position in self.queue[index:index + count]]
+        del self.queue[index:index + count]
+        self.given_up += count
+        return positions[0]
+
+    def undone(self):
+        return OneByOneStation(self.operations[:-1])
+
+
+def operations_from(step, number, most):
+    """So many operations and the word undo, without much of a pattern, another list for each step."""
+    operations = []
+    model = OneByOneStation()
+    for at in range(number):
+        choice = (at * at * step + at // 2 + 3 * step) % 23
+        if choice == 5 and model.operations:
+            operations.append('undo')
+            model = model.undone()
+            continue
+        if choice < 4 and model.queue:
+            index = (at * step) % len(model.queue)
+            count = 1 + (at + step) % min(most, len(model.queue) - index)
+            operations.append(('give_up', index, count))
+        else:
+            operations.append(('arrive', 'aabca'[(choice + at // 7) % 5], 1 + (choice * at) % most))
+        model.do(operations[-1])
+    return operations
+
+
+# Arrivals (kind, count), also of the same kind one after the other, and up to three hundred of them.
+LARGE_ARRIVALS = [S, LONGEST[:300], [('a', LARGEST), ('b', 1)] * 150, [('a', 1)] * 300]
+LARGE_ARRIVALS = LARGE_ARRIVALS + [([('a', 2), ('b', 1)] * 150)[:299] + [('c', LARGEST)]]
+LARGE_ARRIVALS = LARGE_ARRIVALS + [
+    list(zip(mixed_items('aabcd', 30, step),
+             mixed_items([1, 2, 10 ** 15, LARGEST // 50, LARGEST // 40, 7], 30, step + 2)))
+    for step in range(1, 30)
+]

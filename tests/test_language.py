@@ -36,12 +36,33 @@ INTERFACE = {
     'orders': [
         'order_count(counts)', 'orders_leading_to(counts, state)', 'nth_order(counts, state, index)',
         'order_index(counts, items)', 'likeliest_state(counts)'],
+    'records': [
+        'conflict_of(kinds, record)', 'fitting_count(kinds, record)', 'nth_fitting(kinds, record, index)',
+        'fitting_index(kinds, record, items)', 'certain_kinds(kinds, record)', 'record_of(items)'],
+    'station': ['Station()'],
+    'texts': [
+        'format_sequence(sequence)', 'format_state(state)', 'format_record(record)', 'parse_sequence(text)',
+        'parse_state(text)', 'parse_record(text)'],
+    'console': ['Console()'],
+}
+
+METHODS = {
+    'station.Station': [
+        'arrive(self, kind, count=1)', 'give_up(self, index, count=1)', 'undo(self)', 'current_state(self)',
+        'waiting_positions(self)', 'arrival_count(self)', 'pair_total(self)', 'give_up_count(self)',
+        'partner_at(self, position)', 'operations_done(self)', 'duplicate(self)', '__eq__(self, other)',
+        '__len__(self)'],
+    'console.Console': ['execute(self, line)'],
 }
 
 BUILTINS = set((
     'len range enumerate zip min max sum abs sorted reversed int str bool bytes list tuple dict set isinstance ord '
     'repr any all divmod ValueError TypeError KeyError IndexError LookupError ZeroDivisionError '
     'NotImplementedError NotImplemented').split())
+
+METHODS_OF_VALUES = set((
+    'append clear copy count endswith extend find get index insert items join keys partition pop remove replace '
+    'reverse rfind setdefault split startswith strip update values').split())
 
 WORDS = set((
     'type typing typing_extensions enum Enum IntEnum StrEnum Flag IntFlag Generic Protocol ABC ABCMeta namedtuple '
@@ -115,6 +136,32 @@ class Source(unittest.TestCase):
             if isinstance(node.func, ast.Name) and node.func.id in ['any', 'all', 'sum', 'min', 'max', 'sorted']:
                 self.assertFalse([each for each in node.args if isinstance(each, ast.GeneratorExp)], name)
 
+    def test_no_variable_has_the_name_of_an_import_or_a_class(self):
+        for path, text in sources():
+            tree = ast.parse(text)
+            taken = {alias.name for node in ast.walk(tree) if isinstance(node, ast.ImportFrom) for alias in node.names}
+            taken |= {node.name for node in ast.walk(tree) if isinstance(node, ast.ClassDef)}
+            variables = {node.arg for node in ast.walk(tree) if isinstance(node, ast.arg)}
+            variables |= {node.id for node in ast.walk(tree)
+                          if isinstance(node, ast.Name) and isinstance(node.ctx, ast.Store)}
+            self.assertEqual(sorted(taken & variables), [], path)
+
+    def test_attributes_and_methods(self):
+        assigned = {node.attr for name, node in nodes(ast.Attribute) if isinstance(node.ctx, ast.Store)}
+        read = {node.attr for name, node in nodes(ast.Attribute) if isinstance(node.ctx, ast.Load)}
+        methods = {part.name for name, node in nodes(ast.ClassDef) for part in node.body
+                   if isinstance(part, ast.FunctionDef)}
+        self.assertEqual(sorted(assigned & methods), [])
+        self.assertEqual(sorted(read - assigned - methods - METHODS_OF_VALUES), [])
+        values = ['', 0, [], (), {}, set(), b'']
+        taken = {each for value in values for each in dir(value) if not each.startswith('__')} - {'count', 'index'}
+        self.assertEqual(sorted((assigned | methods) & taken), [])
+
+    def test_double_underscore_methods_are_one_return(self):
+        for name, node in nodes(ast.FunctionDef):
+            if node.name.startswith('__') and node.name != '__init__':
+                self.assertEqual([type(part) for part in node.body], [ast.Return], (name, node.name))
+
 
 class Interface(unittest.TestCase):
     def test_each_function_is_defined_in_its_file_with_its_arguments(self):
@@ -125,6 +172,14 @@ class Interface(unittest.TestCase):
                 self.assertEqual(function.__module__, 'unlikepairs.' + module, name)
                 self.assertEqual(function.__name__, name)
                 self.assertEqual(name + str(inspect.signature(function)), call)
+
+    def test_each_method_is_defined_in_its_class_with_its_arguments(self):
+        for place, calls in METHODS.items():
+            module, name = place.split('.')
+            body = vars(getattr(importlib.import_module('unlikepairs.' + module), name))
+            for call in calls:
+                method = body[call.partition('(')[0]]
+                self.assertEqual(method.__name__ + str(inspect.signature(method)), call, place)
 
 
 if __name__ == '__main__':

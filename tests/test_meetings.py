@@ -184,7 +184,8 @@ class Edges(MeetingCase):
         self.check_shortest(['b', 'c'], ('a', 6), None, 6)
 
     def test_odd_distances_never_meet(self):
-        for one, other in [(('a', 1), None), (('a', 2), ('b', 1)), (('a', 5), ('a', 2)), (('a', HUGE), ('b', HUGE + 1))]:
+        for one, other in [(('a', 1), None), (('a', 2), ('b', 1)), (('a', 5), ('a', 2)),
+                           (('a', HUGE), ('b', HUGE + 1))]:
             for kinds in [['a'], ['c', 'd'], TWELVE]:
                 self.same([meeting_length(kinds, one, other), meeting_length(kinds, other, one)], [None, None])
                 self.same([shortest_meeting(kinds, one, other), shortest_meeting(kinds, other, one)], [None, None])
@@ -314,7 +315,8 @@ class KindsOfValues(MeetingCase):
 
     def test_returned_lists_are_new(self):
         self.gives_new_lists(
-            lambda: shortest_meeting(['b', 'c'], ('a', 4), ('b', 2)), lambda: shortest_meeting(('c',), ('a', 4), ('b', 4)))
+            lambda: shortest_meeting(['b', 'c'], ('a', 4), ('b', 2)),
+            lambda: shortest_meeting(('c',), ('a', 4), ('b', 4)))
         empty = shortest_meeting(['a'], None, None)
         empty.append('more')
         self.same(shortest_meeting(['a'], None, None), [])

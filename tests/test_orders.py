@@ -252,8 +252,8 @@ class WrongInputs(ExactCase):
             self.refuses(InvalidNumber, nth_order, [('a', 1)], ('a', 1), value)
 
     def test_items(self):
-        wrong = [None, True, 0, 'aabc', b'aabc', {}, {'a': 1}, {'a', 'b'}, object(), list, iter('aabc'), range(4), [], (),
-                 ['a'], ['a', 'a', 'b'], ['a', 'b', 'c'], ['a', 'a', 'b', 'b'], ['a', 'a', 'b', 'c', 'c'],
+        wrong = [None, True, 0, 'aabc', b'aabc', {}, {'a': 1}, {'a', 'b'}, object(), list, iter('aabc'), range(4), [],
+                 (), ['a'], ['a', 'a', 'b'], ['a', 'b', 'c'], ['a', 'a', 'b', 'b'], ['a', 'a', 'b', 'c', 'c'],
                  ['a', 'a', 'b', 'd'], ['a', 'a', 'a', 'b', 'c'], ['aa', 'b', 'c'], ['a', 'a', 'b', ['c']],
                  [('a', 2), ('b', 1), ('c', 1)], [['a', 'a', 'b', 'c']], ['a', 'a', 'b', 'c', None], ['a'] * 401]
         wrong = wrong + [['a', 'a', 'b', kind] for kind in WRONG_KINDS]

@@ -206,8 +206,8 @@ class Shows(ExactCase):
                 self.same(shows_against(ACB, state, value), False)
 
     def test_true_and_false_are_no_numbers(self):
-        self.same([shows_against([('a', 1)], None, value) for value in [('parity', 1), ('parity', True)]], [True, False])
-        self.same([shows_against([('a', 1)], ('a', 2), value) for value in [('few', 1), ('few', True)]], [True, False])
+        for state, name in [(None, 'parity'), (('a', 2), 'few')]:
+            self.same([shows_against([('a', 1)], state, (name, number)) for number in [1, True]], [True, False])
         self.same([shows_against([('a', 1)], None, ('majority', 'a', *rest))
                    for rest in [(1, 1), (True, 1), (1, True), (True, True)]], [True, False, False, False])
 

@@ -55,6 +55,16 @@ def pairs_in(blocks):
     return sum([count for first, second, count in blocks])
 
 
+def partner_in(blocks, position):
+    """Return the position of the partner of an item, or None if no block has it."""
+    for first, second, count in blocks:
+        if first <= position < first + count:
+            return second + position - first
+        if second <= position < second + count:
+            return first + position - second
+    return None
+
+
 def is_pair(value):
     """Return whether any value has the form of a pair of positions."""
     return is_couple(value) and is_whole(value[0]) and is_whole(value[1])
@@ -64,12 +74,7 @@ def partner_of(sequence, position):
     """Return the position of the partner of an item, or None if it remains."""
     runs = checked_runs(sequence)
     check_position(runs, position)
-    for first, second, count in blocks_of(runs):
-        if first <= position < first + count:
-            return second + position - first
-        if second <= position < second + count:
-            return first + position - second
-    return None
+    return partner_in(blocks_of(runs), position)
 
 
 def pair_count(sequence, moment=None):

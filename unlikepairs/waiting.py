@@ -49,6 +49,25 @@ def check_moment(runs, moment):
         raise InvalidPosition("not a moment from 0 to the length")
 
 
+def add_range(ranges, first, last):
+    """Add a range at the end of a list of ranges, as a part of the last one if it continues that one."""
+    if ranges and ranges[-1][1] + 1 == first:
+        ranges[-1] = (ranges[-1][0], last)
+    else:
+        ranges.append((first, last))
+
+
+def only_first(ranges, number):
+    """Return what ranges (first, last) are if only their first so many positions are kept."""
+    kept = []
+    for first, last in ranges:
+        size = min(number, last - first + 1)
+        if size > 0:
+            kept.append((first, first + size - 1))
+        number -= size
+    return kept
+
+
 def without_first(ranges, number):
     """Return what is left of ranges (first, last) without the first so many positions."""
     kept = []
@@ -64,8 +83,7 @@ def ranges_after_run(ranges, start, count, leaving):
     """Return the waiting positions after a run that begins at start and whose first leaving items leave at once."""
     kept = without_first(ranges, leaving)
     if leaving < count:
-        # Never next to the range before it: an item of another kind arrived between two runs of one kind.
-        kept.append((start + leaving, start + count - 1))
+        add_range(kept, start + leaving, start + count - 1)
     return kept
 
 
