@@ -236,6 +236,17 @@ class LargeNumbers(ConsoleCase):
         c.execute('arrive a 5')
         self.refuses(TooLong, c.execute, 'sequence')
 
+    def test_400_and_401_runs(self):
+        c = Console()
+        for at in range(400):
+            c.execute('arrive ' + 'ab'[at % 2])
+        self.same(c.execute('sequence'), ' '.join(['a', 'b'] * 200))
+        c.execute('arrive b')
+        self.same(c.execute('sequence'), ' '.join(['a', 'b'] * 200) + '*2')
+        c.execute('arrive a')
+        self.refuses(TooLong, c.execute, 'sequence')
+        self.same([c.execute('arrivals'), c.execute('pairs'), c.execute('state')], ['402', '201', '-'])
+
     def test_numbers_of_many_digits(self):
         c = Console()
         c.execute('arrive a 3')

@@ -2,23 +2,15 @@
 
 from unlikepairs.errors import InvalidItems, InvalidNumber, TooMany
 from unlikepairs.remains import checked_counts
-from unlikepairs.sequences import checked_state, is_kind, is_listed, is_within, length_of
+from unlikepairs.sequences import checked_state, is_kind, is_listed, is_within, length_of, product_of
 from unlikepairs.waiting import state_after_run
 
 MAX_PRODUCT = 3000
 
 
-def product_of(counts):
-    """Return in how many ways one can say how many items of each kind have arrived."""
-    product = 1
-    for kind, count in counts:
-        product *= count + 1
-    return product
-
-
 def check_product(counts):
-    """Raise an error unless all ways in which part of the items have arrived may be listed."""
-    product = product_of(counts)
+    """Raise an error if the counts are too large."""
+    product = product_of([count + 1 for kind, count in counts])
     if product > MAX_PRODUCT:
         raise TooMany(product)
 
@@ -27,7 +19,7 @@ def steps_of(counts):
     """Return (kind, count, step) for each kind in ascending order.
 
     The numbers of items that have arrived are kept as one mark: the sum of step times the number of items of the
-    kind. The marks are those from 0 to the product minus 1, and a mark grows with each arrival.
+    kind. The marks are the numbers below the product of count + 1, and a mark grows with each arrival.
     """
     steps = []
     step = 1
@@ -50,7 +42,7 @@ def add_orders(ways, state, orders):
 def ways_to(counts):
     """Return for each mark the dict of the states that can be reached, with the numbers of orders that do so."""
     steps = steps_of(counts)
-    ways = [{} for mark in range(product_of(counts))]
+    ways = [{} for mark in range(product_of([count + 1 for kind, count in counts]))]
     add_orders(ways[0], None, 1)
     for mark in range(len(ways)):
         reached = list(ways[mark].items())

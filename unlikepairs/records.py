@@ -1,7 +1,8 @@
 """Records of arrivals in which some kinds are unknown."""
 
 from unlikepairs.errors import Contradiction, InvalidItems, InvalidNumber, InvalidRecord
-from unlikepairs.sequences import MAX_ITEMS, check_kinds, is_couple, is_kind, is_listed, is_within, runs_of
+from unlikepairs.sequences import (
+    MAX_ITEMS, check_kinds, is_couple, is_kind, is_listed, is_within, product_of, runs_of)
 from unlikepairs.waiting import leaving_number, state_after_run
 
 MAX_ENTRIES = 400
@@ -84,14 +85,6 @@ def options_after(kinds, entries, items):
     return options
 
 
-def product_of_all(numbers):
-    """Return the product of some numbers."""
-    product = 1
-    for number in numbers:
-        product *= number
-    return product
-
-
 def digits_in(numbers, index):
     """Return the digits of an index, each one below its number, with the last one changing fastest."""
     digits = []
@@ -154,14 +147,14 @@ def conflict_of(kinds, record):
 
 def fitting_count(kinds, record):
     """Return the number of lists that fit."""
-    return product_of_all(option_numbers(kinds, checked_entries(kinds, record)))
+    return product_of(option_numbers(kinds, checked_entries(kinds, record)))
 
 
 def nth_fitting(kinds, record, index):
     """Return the list with an index among the lists that fit, in ascending order."""
     entries = checked_entries(kinds, record)
     numbers = option_numbers(kinds, entries)
-    if not is_within(index, 0, product_of_all(numbers) - 1):
+    if not is_within(index, 0, product_of(numbers) - 1):
         raise InvalidNumber("not the index of a list that fits")
     digits = digits_in(numbers, index)
     items = []

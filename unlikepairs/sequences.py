@@ -108,6 +108,14 @@ def length_of(runs):
     return sum([count for kind, count in runs])
 
 
+def product_of(numbers):
+    """Return the product of some numbers."""
+    product = 1
+    for number in numbers:
+        product *= number
+    return product
+
+
 def cut(runs, start, length):
     """Return the runs of so many items from the position start on."""
     end = start + length
@@ -140,7 +148,7 @@ def counts_of(sequence):
     totals = {}
     for kind, count in checked_runs(sequence):
         totals[kind] = totals.get(kind, 0) + count
-    return sorted(totals.items())
+    return sorted(list(totals.items()))
 
 
 def kind_at(sequence, position):
